@@ -1,0 +1,1 @@
+"""meanring: the cheapest round, road for road."""
