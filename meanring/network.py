@@ -18,6 +18,10 @@ def no_roads():
     return [None] * (LAST_ROAD + 1)
 
 
+def roads_there(roads):
+    return [kept for kept in roads if kept is not None]
+
+
 def cost_can_be(cost):
     return -LARGEST_COST <= cost <= LARGEST_COST
 
@@ -69,4 +73,4 @@ def tell_road(roads, e):
 
 
 def count_roads(roads):
-    return [len([kept for kept in roads if kept is not None])]
+    return [len(roads_there(roads))]

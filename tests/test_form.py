@@ -26,6 +26,14 @@ WORDS = """type typing typing_extensions enum Enum IntEnum StrEnum Flag IntFlag 
     NamedTuple TypedDict TYPE_CHECKING abstractmethod""".split()
 
 
+NOT_AS_NAMES = """attrgetter breakpoint builtins compile copyright credits delattr dir eval exec exit gc getattr globals
+    hasattr help id importlib license locals methodcaller os quit setattr super type vars sys register mro elements open
+    input version_info with_traceback add_note __name__""".split()
+CHANGES = "append clear extend insert pop remove reverse setdefault update".split()
+WALKED = "zip enumerate reversed range".split()
+WALKERS = "list tuple dict sorted sum any all enumerate zip min max".split()
+
+
 def bound_names(tree):
     """Every name that the file itself gives a meaning."""
     for node in ast.walk(tree):
@@ -45,6 +53,22 @@ def each_file():
     for path in FILES:
         text = path.read_bytes().decode("ascii")
         yield path, text, ast.parse(text)
+
+
+def called(node):
+    """The plain name that is called there, if any."""
+    return node.func.id if isinstance(node, ast.Call) and isinstance(node.func, ast.Name) else None
+
+
+def is_plain(node):
+    """A whole number, a text, or a tuple, list or dict of plain values."""
+    if isinstance(node, ast.UnaryOp) and isinstance(node.op, ast.USub):
+        node = node.operand
+    if isinstance(node, (ast.Tuple, ast.List)):
+        return all(is_plain(part) for part in node.elts)
+    if isinstance(node, ast.Dict):
+        return all(is_plain(part) for part in node.keys + node.values)
+    return isinstance(node, ast.Constant)
 
 
 class Files(unittest.TestCase):
@@ -101,6 +125,78 @@ class Files(unittest.TestCase):
                     elif place:
                         names.append(node.name)
                 self.assertEqual(len(names), len(set(names)))
+
+    def test_values_at_the_top(self):
+        for path, text, tree in each_file():
+            for node in tree.body:
+                if isinstance(node, ast.Assign):
+                    self.assertTrue(is_plain(node.value), (path.name, node.lineno))
+                    # Only what can't be changed stands there, so nothing is kept there.
+                    self.assertNotIsInstance(node.value, (ast.List, ast.Dict), (path.name, node.lineno))
+
+    def test_no_annotations_sets_or_inner_functions(self):
+        for path, text, tree in each_file():
+            for node in ast.walk(tree):
+                place = (path.name, getattr(node, "lineno", 0))
+                self.assertIsNone(getattr(node, "annotation", None), place)
+                self.assertIsNone(getattr(node, "returns", None), place)
+                self.assertNotIsInstance(node, (ast.Set, ast.Lambda, ast.Try), place)
+                self.assertNotIn(called(node), ("set", "frozenset"), place)
+                if isinstance(node, ast.FunctionDef):
+                    inner = [part for part in ast.walk(node) if isinstance(part, (ast.FunctionDef, ast.ClassDef))]
+                    self.assertEqual(inner, [node], place)
+
+    def test_comprehensions(self):
+        for path, text, tree in each_file():
+            for node in ast.walk(tree):
+                if isinstance(node, ast.ListComp):
+                    self.assertEqual(len(node.generators), 1, (path.name, node.lineno))
+                    self.assertLessEqual(len(node.generators[0].ifs), 1, (path.name, node.lineno))
+
+    def test_walked_on_the_spot(self):
+        for path, text, tree in each_file():
+            spots = []
+            for node in ast.walk(tree):
+                if isinstance(node, (ast.For, ast.comprehension)):
+                    spots.append(node.iter)
+                elif called(node) in WALKERS:
+                    spots.extend(node.args[:1])
+            for node in ast.walk(tree):
+                method = isinstance(node, ast.Call) and isinstance(node.func, ast.Attribute) and node.func.attr
+                if called(node) in WALKED or method in ("items", "keys", "values"):
+                    self.assertIn(node, spots, (path.name, node.lineno))
+
+    def test_what_is_walked_is_not_changed(self):
+        for path, text, tree in each_file():
+            for loop in ast.walk(tree):
+                if not isinstance(loop, ast.For):
+                    continue
+                walked = {ast.unparse(part) for part in ast.walk(loop.iter) if isinstance(part, ast.Name)}
+                for node in (part for row in loop.body for part in ast.walk(row)):
+                    changed = None
+                    if isinstance(node, ast.Subscript) and isinstance(node.ctx, ast.Store):
+                        changed = ast.unparse(node.value)
+                    elif isinstance(node, ast.Call) and isinstance(node.func, ast.Attribute):
+                        changed = ast.unparse(node.func.value) if node.func.attr in CHANGES else None
+                    self.assertNotIn(changed, walked, (path.name, node))
+
+    def test_locals_are_not_called_like_imports_or_classes(self):
+        for path, text, tree in each_file():
+            drawn = {alias.name for node in tree.body if isinstance(node, ast.ImportFrom) for alias in node.names}
+            drawn |= {node.name for node in tree.body if isinstance(node, ast.ClassDef)}
+            for node in ast.walk(tree):
+                if isinstance(node, ast.FunctionDef):
+                    self.assertEqual(set(bound_names(node)) & drawn, set(), (path.name, node.name))
+
+    def test_keywords_and_texts(self):
+        for path, text, tree in each_file():
+            for node in ast.walk(tree):
+                place = (path.name, getattr(node, "lineno", 0))
+                self.assertNotIsInstance(node, (ast.keyword, ast.Pow), place)
+                if isinstance(node, ast.Constant) and isinstance(node.value, str):
+                    self.assertNotIn("%", node.value, place)
+                name = getattr(node, "id", getattr(node, "attr", getattr(node, "name", None)))
+                self.assertNotIn(name, NOT_AS_NAMES, place)
 
     def test_imports(self):
         drawn = {}
